@@ -1,0 +1,1 @@
+"""Offerhouse: what each whole amount costs, and the cheapest split over sellers."""
