@@ -2,6 +2,9 @@
 
 import random
 
+from offerhouse import rules
+from offerhouse.forms import laid
+
 
 def costs_in(rows):
     """A dict from each amount that the stretches hold to its cost."""
@@ -65,6 +68,100 @@ def cut_up(form, source, cuts):
             own = step if first < last else source.randrange(-9, 10)
             rows.append((first, last, price + step * (first - low), own))
     return rows
+
+
+def far_form(source, stretches):
+    """A form with ends and costs of up to 50 figures; some stretches are neighbours, some hold one amount."""
+    rows = []
+    low = source.choice((far_number(source, 50), far_number(source, 30), 0))
+    for _ in range(stretches):
+        high = low + source.choice((0, 1, 2, 10 ** 30, source.randrange(10 ** 40)))
+        price = far_number(source, source.randrange(1, 50))
+        rows.append((low, high, price, far_number(source, source.randrange(1, 20))))
+        low = high + source.choice((1, 1, 2, 10 ** 33, source.randrange(1, 10 ** 40)))
+    return laid(rows)
+
+
+def beside_ends(*forms):
+    """The amounts at, beside and midway between the ends of all stretches of the forms."""
+    ends = sorted({end for form in forms for row in form for end in row[:2]})
+    near = {end + beside for end in ends for beside in (-2, -1, 0, 1, 2)}
+    middles = {(end + behind) // 2 for end, behind in zip(ends, ends[1:])}
+    return sorted(near | middles | {0})
+
+
+def long_form(stretches, low=0):
+    """A form of so many stretches of two amounts each, with a gap behind each."""
+    return tuple((low + 3 * k, low + 3 * k + 1, k * k, k) for k in range(stretches))
+
+
+def rule_of(spec):
+    """The rule of a tuple: the name of its class, and what it is made with (tuples again for rules)."""
+    made = [rule_of(part) if isinstance(part, tuple) else part for part in spec[1:]]
+    return getattr(rules, spec[0])(*made)
+
+
+def unit_of(rows, number):
+    return [unit for top, unit in rows if top >= number][0]
+
+
+def costs_of(spec, forms):
+    """A dict from each amount that the rule of the tuple offers to its cost, as point 4.1 tells, one by one."""
+    kind, *made = spec
+    inner = [costs_of(part, forms) for part in made if isinstance(part, tuple)]
+    if kind == "Each":
+        return {x: made[0] * x for x in range(made[1], made[2] + 1)}
+    if kind == "Flat":
+        return {x: made[0] for x in range(made[1], made[2] + 1)}
+    if kind == "Bands":
+        return {x: x * unit_of(made[0], x) for x in range(made[0][-1][0] + 1)}
+    if kind == "Steps":
+        return {x: sum(unit_of(made[0], piece) for piece in range(1, x + 1)) for x in range(made[0][-1][0] + 1)}
+    if kind == "Blocks":
+        return {x: made[1] * len(range(0, x, made[0])) for x in range(made[0] * made[2] + 1)}
+    if kind == "Named":
+        return costs_in(forms[made[0]])
+    return costs_over(kind, made, inner)
+
+
+def costs_over(kind, made, inner):
+    one = inner[0]
+    if kind == "Sum":
+        return {x: one[x] + inner[1][x] for x in one if x in inner[1]}
+    if kind == "Cheaper":
+        return {x: min(costs[x] for costs in inner if x in costs) for x in {*one, *inner[1]}}
+    if kind == "Dearer":
+        return {x: max(one[x], inner[1][x]) for x in one if x in inner[1]}
+    if kind == "Only":
+        return {x: one[x] for x in one if made[1] <= x <= made[2]}
+    if kind == "After":
+        behind = max(0, max(one, default=0)) + made[1] + 1
+        return {x: one[max(0, x - made[1])] for x in range(behind) if max(0, x - made[1]) in one}
+    if kind == "Roomy":
+        amounts = range(min(one), max(one) + 1) if one else ()
+        return {x: min(one[y] for y in one if y >= x) for x in amounts}
+    assert kind == "Fee"
+    return {x: one[x] + (made[1] if x else 0) for x in one}
+
+
+def words_of(spec):
+    """What point 4.4 writes of the rule of the tuple."""
+    kind, *made = spec
+    made = [words_of(part) if isinstance(part, tuple) else part for part in made]
+    if kind in ("Bands", "Steps"):
+        return " ".join([kind.lower()] + [str(top) + ":" + str(unit) for top, unit in made[0]])
+    pattern = {
+        "Each": "each {} from {} to {}", "Flat": "flat {} from {} to {}", "Blocks": "blocks {} at {} times {}",
+        "Named": "{}", "Sum": "( {} plus {} )", "Cheaper": "( {} or {} )", "Dearer": "( {} max {} )",
+        "Only": "( {} only {} to {} )", "After": "( {} after {} )", "Roomy": "( {} roomy )", "Fee": "( {} fee {} )",
+    }[kind]
+    return pattern.format(*made)
+
+
+def count_of(spec):
+    """How many rules the rule of the tuple holds, and how many stand within one another."""
+    inner = [count_of(part) for part in spec[1:] if isinstance(part, tuple)]
+    return 1 + sum(many for many, deep in inner), 1 + max((deep for many, deep in inner), default=0)
 
 
 FAR_FORM = (

@@ -30,6 +30,9 @@ WORDS = """
 type typing typing_extensions enum Enum IntEnum StrEnum Flag IntFlag Generic Protocol ABC ABCMeta namedtuple NamedTuple
 TypedDict TYPE_CHECKING abstractmethod
 """.split()
+VALUES_NOT_USED = """
+items keys values pop update append clear extend insert remove reverse setdefault sort args encode format
+""".split()
 PLAIN_NAME = re.compile(r"[A-Za-z][A-Za-z0-9_]*\Z")
 
 
@@ -109,6 +112,13 @@ class Language(unittest.TestCase):
             self.assertFalse(node.orelse, where)
         if isinstance(node, ast.Try):
             self.assertFalse(node.finalbody, where)
+        if isinstance(node, ast.Expr):
+            text = isinstance(node.value, ast.Constant) and node.lineno == 1
+            self.assertTrue(text or isinstance(node.value, ast.Call), where)
+        if isinstance(node, ast.FormattedValue):
+            self.assertTrue(isinstance(node.value, ast.Name) and node.format_spec is None, where)
+        if isinstance(node, ast.BinOp) and isinstance(node.op, ast.Pow):
+            self.assertTrue(isinstance(node.right, ast.Constant) and node.right.value <= 64, where)
         if isinstance(node, ast.ListComp):
             self.assertTrue(len(node.generators) == 1 and len(node.generators[0].ifs) <= 1, where)
         if isinstance(node, ast.Constant):
@@ -140,6 +150,36 @@ class Language(unittest.TestCase):
             for node in ast.walk(tree):
                 if isinstance(node, ast.Name) and node.id not in bound:
                     self.assertIn(node.id, PYTHONS_NAMES, (path, node.lineno))
+
+    def test_no_local_is_called_like_a_class_or_an_import(self):
+        for path in FILES:
+            tree = tree_of(path)
+            taken = [alias.name for alias in ast.walk(tree) if isinstance(alias, ast.alias)]
+            taken += [node.name for node in tree.body if isinstance(node, ast.ClassDef)]
+            names = [node for node in ast.walk(tree) if isinstance(node, ast.Name)]
+            stored = [node.id for node in names if isinstance(node.ctx, ast.Store)]
+            stored += [node.arg for node in ast.walk(tree) if isinstance(node, ast.arg)]
+            self.assertEqual([name for name in stored if name in taken], [], path)
+
+    def test_no_name_is_a_method_and_a_value(self):
+        nodes = [node for path in FILES for node in ast.walk(tree_of(path))]
+        classes = [node for node in nodes if isinstance(node, ast.ClassDef)]
+        methods = {part.name for node in classes for part in node.body if isinstance(part, ast.FunctionDef)}
+        stored = {node.attr for node in nodes if isinstance(node, ast.Attribute) and isinstance(node.ctx, ast.Store)}
+        self.assertEqual(sorted(methods & stored), [])
+        self.assertEqual(sorted(name for name in stored if name in VALUES_NOT_USED), [])
+        for node in classes:
+            own = [part.name for part in node.body if isinstance(part, ast.FunctionDef)]
+            self.assertEqual(len(own), len(set(own)), node.name)
+
+    def test_sets_are_not_kept(self):
+        for path in FILES:
+            nodes = list(ast.walk(tree_of(path)))
+            calls = [node for node in nodes if isinstance(node, ast.Call) and isinstance(node.func, ast.Name)]
+            places = [part for node in calls if node.func.id in ("sorted", "len") for part in node.args]
+            places += [part for node in nodes if isinstance(node, ast.Compare) for part in node.comparators]
+            sets = [node for node in calls if node.func.id == "set"]
+            self.assertEqual([node.lineno for node in sets if node not in places], [], path)
 
     def test_methods(self):
         trees = [tree_of(path) for path in FILES]
