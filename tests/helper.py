@@ -95,6 +95,32 @@ def long_form(stretches, low=0):
     return tuple((low + 3 * k, low + 3 * k + 1, k * k, k) for k in range(stretches))
 
 
+def split_costs(*costs):
+    """Dicts of costs joined: each sum of amounts, one of each dict, at the least cost of all the ways to it."""
+    made = {0: 0}
+    for here in costs:
+        longer = {}
+        for x, cost in made.items():
+            for y, more in here.items():
+                longer[x + y] = min(cost + more, longer.get(x + y, cost + more))
+        made = longer
+    return made
+
+
+def far_split_cost(one, other, x):
+    """What x costs in the split of two forms, None where not offered.
+
+    Over one stretch of each, the cost of the first part y and of x - y together runs straight: an end is the least.
+    """
+    costs = []
+    for low, high, price, step in one:
+        for first, last, dear, slope in other:
+            for y in (max(low, x - last), min(high, x - first)):
+                if low <= y <= high and first <= x - y <= last:
+                    costs.append(price + step * (y - low) + dear + slope * (x - y - first))
+    return min(costs, default=None)
+
+
 def rule_of(spec):
     """The rule of a tuple: the name of its class, and what it is made with (tuples again for rules)."""
     made = [rule_of(part) if isinstance(part, tuple) else part for part in spec[1:]]
