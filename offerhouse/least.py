@@ -10,6 +10,14 @@ def least(one, other):
     return laid(sorted(lesser_rows(one, other) + alone))
 
 
+# By halves, so that long forms meet long ones and each stretch is looked at but a few times.
+def least_of(forms):
+    if len(forms) < 2:
+        return forms[0] if forms else ()
+    half = len(forms) // 2
+    return least(least_of(forms[:half]), least_of(forms[half:]))
+
+
 def lesser_rows(one, other):
     rows = []
     for low, high, mine, yours in met(one, other):

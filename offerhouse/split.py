@@ -2,7 +2,7 @@
 
 from offerhouse.errors import NotOffered, TooMany
 from offerhouse.forms import drawn_to, laid
-from offerhouse.least import least
+from offerhouse.least import least_of
 
 MOST_PICKS = 100
 
@@ -64,14 +64,6 @@ def how_many_picks(forms):
     for form in forms:
         many *= len(form)
     return many
-
-
-# By halves, so that long forms meet long ones and each stretch is looked at but a few times.
-def least_of(forms):
-    if len(forms) < 2:
-        return forms[0] if forms else ()
-    half = len(forms) // 2
-    return least(least_of(forms[:half]), least_of(forms[half:]))
 
 
 def best_dealt(forms, x):

@@ -1,6 +1,8 @@
 """What several tests share: costs looked at one by one, and numbers to try."""
 
+import math
 import random
+from fractions import Fraction
 
 from offerhouse import rules
 from offerhouse.forms import laid
@@ -119,6 +121,66 @@ def far_split_cost(one, other, x):
                 if low <= y <= high and first <= x - y <= last:
                     costs.append(price + step * (y - low) + dear + slope * (x - y - first))
     return min(costs, default=None)
+
+
+def far_gain(form, p):
+    """The gain at p: along a stretch gains run straight, so that an end of one gains most."""
+    return max(p * x - (price + step * (x - low)) for low, high, price, step in form for x in (low, high))
+
+
+def far_hull_cost(form, x, low, high):
+    """The greatest of p * x less the gain at p: by p it rises no more once it does not rise, so halving finds it."""
+    while low < high:
+        middle = (low + high) // 2
+        if x - far_gain(form, middle + 1) + far_gain(form, middle) > 0:
+            low = middle + 1
+        else:
+            high = middle
+    return low * x - far_gain(form, low)
+
+
+def are_spans(told):
+    """Whether it is a tuple as point 0.6 tells."""
+    right = type(told) is tuple and all(type(span) is tuple and len(span) == 2 and span[0] <= span[1] for span in told)
+    return right and all(row[0] >= ahead[1] + 2 for ahead, row in zip(told, told[1:]))
+
+
+def held_by(spans):
+    """The list of the numbers that the spans hold."""
+    return [x for low, high in spans for x in range(low, high + 1)]
+
+
+def few_amounts(source):
+    costs = {x + source.randrange(-2, 3): source.randrange(7) - x for x in range(4) if source.randrange(4)}
+    return form_from(costs)
+
+
+def sellers_of(source, most):
+    """Up to so many forms of few amounts each, whose numbers of stretches come to a product of at most 100."""
+    while True:
+        forms = [few_amounts(source) for _ in range(source.randrange(most + 1))]
+        many = 1
+        for form in forms:
+            many *= len(form)
+        if many <= 100:
+            return forms
+
+
+def shown_at(costs, x, p):
+    """Whether the unit price shows the amount, as point 8.1 tells."""
+    return all(cost >= costs[x] + p * (y - x) for y, cost in costs.items())
+
+
+def bars_bar(all_costs, shares, k, y, j, z):
+    """Whether a paper of two bars holds, as point 8.2 tells."""
+    sellers = range(len(all_costs))
+    if k not in sellers or j not in sellers or y not in all_costs[k] or z not in all_costs[j]:
+        return False
+    if y >= shares[k] or z <= shares[j]:
+        return False
+    low = Fraction(all_costs[k][shares[k]] - all_costs[k][y], shares[k] - y)
+    high = Fraction(all_costs[j][z] - all_costs[j][shares[j]], z - shares[j])
+    return math.ceil(low) > math.floor(high)
 
 
 def rule_of(spec):

@@ -2,7 +2,8 @@ import itertools
 import unittest
 
 from helper import (
-    FAR_FORM, beside_ends, chance, costs_in, far_form, far_split_cost, form_from, long_form, small_forms, split_costs,
+    FAR_FORM, beside_ends, chance, costs_in, far_form, far_split_cost, form_from, long_form, sellers_of, small_forms,
+    split_costs,
 )
 from offerhouse.errors import NotOffered, TooMany
 from offerhouse.forms import cost_at, is_form
@@ -13,20 +14,6 @@ N = 10 ** 39 + 7
 FORM = ((-4, -1, 9, -3), (0, 0, 7, 0), (2, 4, 1, 5), (5, 6, 0, 0), (9, 9, -8, 0))
 NOTHING = ((0, 0, 0, 0),)
 SMALL = small_forms(3, (None, 0, 1, 3))
-
-
-def some_sellers(source):
-    """Up to six forms, each of few amounts, that are not too many together."""
-    while True:
-        forms = [
-            form_from({x + source.randrange(-2, 3): source.randrange(7) - x for x in range(4) if source.randrange(4)})
-            for _ in range(source.randrange(7))
-        ]
-        many = 1
-        for form in forms:
-            many *= len(form)
-        if many <= 100:
-            return forms
 
 
 def costs_together(forms):
@@ -61,7 +48,7 @@ class Joined(Told):
         source = chance(61)
         seen = set()
         for _ in range(400):
-            forms = some_sellers(source)
+            forms = sellers_of(source, 6)
             seen.add(len(forms))
             self.form(joined(forms), form_from(costs_together(forms)))
         self.assertEqual(seen, {0, 1, 2, 3, 4, 5, 6})
@@ -81,7 +68,7 @@ class Joined(Told):
     def test_the_order_of_the_sellers(self):
         source = chance(62)
         for _ in range(12):
-            forms = some_sellers(source)[:4]
+            forms = sellers_of(source, 6)[:4]
             for order in itertools.permutations(forms):
                 self.assertEqual(joined(list(order)), joined(forms))
 
@@ -89,7 +76,7 @@ class Joined(Told):
         source = chance(63)
         tried = 0
         while tried < 150:
-            forms = some_sellers(source)
+            forms = sellers_of(source, 6)
             for cut in range(len(forms) + 1):
                 parts = [joined(forms[:cut]), joined(forms[cut:])]
                 if len(parts[0]) * len(parts[1]) <= 100:
@@ -175,7 +162,7 @@ class Shares(Told):
     def test_one_by_one(self):
         source = chance(65)
         for _ in range(250):
-            forms = some_sellers(source)
+            forms = sellers_of(source, 6)
             costs = costs_together(forms)
             for x in range(min(costs, default=0) - 1, max(costs, default=0) + 2):
                 if x in costs:
@@ -232,7 +219,7 @@ class Spared(Told):
     def test_each_seller(self):
         source = chance(67)
         for _ in range(250):
-            forms = some_sellers(source)
+            forms = sellers_of(source, 6)
             for k in range(len(forms)):
                 self.form(spared(forms, k), self.asked(forms, k))
 
@@ -296,7 +283,7 @@ class Standing(Told):
     def test_below_within_and_behind(self):
         source = chance(69)
         for _ in range(250):
-            forms = some_sellers(source)
+            forms = sellers_of(source, 6)
             lows = [source.randrange(-5, 7) for _ in forms]
             self.form(standing(forms, lows), self.asked(forms, lows))
             self.form(standing(forms, [-99] * len(forms)), joined(forms))
