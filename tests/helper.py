@@ -252,6 +252,45 @@ def count_of(spec):
     return 1 + sum(many for many, deep in inner), 1 + max((deep for many, deep in inner), default=0)
 
 
+def some_offers(source, many):
+    """Offers of small rules, each of which may name those that come behind it."""
+    names = source.sample(["a", "b", "c", "oak", "elm", "fir", "yew", "ash"], many)
+    offers = []
+    for place, name in enumerate(names):
+        offers.append((name, some_rule(source, names[place + 1:], 3)))
+    return offers
+
+
+def some_rule(source, names, deep):
+    kinds = ["Each", "Flat", "Bands", "Steps", "Blocks"] + ["Named"] * 4 * bool(names)
+    if deep:
+        kinds += ["Sum", "Cheaper", "Dearer", "Only", "After", "Roomy", "Fee"]
+    kind = source.choice(kinds)
+    low, high = sorted(source.randrange(9) for _ in range(2))
+    unit = source.randrange(-4, 8)
+    if kind in ("Each", "Flat"):
+        return (kind, unit, low, high)
+    if kind in ("Bands", "Steps"):
+        tops = sorted(source.sample(range(12), source.randrange(1, 4)))
+        return (kind, [(top, source.randrange(-4, 8)) for top in tops])
+    if kind == "Blocks":
+        return (kind, source.randrange(1, 4), unit, source.randrange(1, 4))
+    if kind == "Named":
+        return (kind, source.choice(names))
+    one = some_rule(source, names, deep - 1)
+    if kind in ("Sum", "Cheaper", "Dearer"):
+        return (kind, one, some_rule(source, names, deep - 1))
+    return (kind, one) + {"Only": (low, high), "After": (low,), "Roomy": (), "Fee": (unit,)}[kind]
+
+
+def forms_of(offers):
+    """The form of each of such offers, amount by amount."""
+    forms = {}
+    for name, spec in reversed(offers):
+        forms[name] = form_from(costs_of(spec, forms))
+    return forms
+
+
 FAR_FORM = (
     (-10 ** 60, -10 ** 30, 7, -3),
     (-10 ** 30 + 1, 5, 10 ** 70, 10 ** 45),
